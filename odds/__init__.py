@@ -1,0 +1,1 @@
+"""Odds: a language for random processes with exact inference."""
