@@ -1,0 +1,44 @@
+"""The interface: each name stands in the file under which the document lists it."""
+
+import importlib
+import os
+import unittest
+
+import odds
+from tests.support import Case
+
+INTERFACE = {
+    "numerals": "to_digits from_digits",
+    "ratios": "ratio plus minus times over compare plus_all times_all rest is_chance write_ratio "
+              "read_ratio",
+    "tables": "tabulate mass_at table_total scaled joined normalized projected mean",
+    "tokens": "tokenize spell bracket_depth is_name is_numeral",
+    "cursor": "Cursor",
+    "trees": "height count_nodes names_in expressions_of targets_of",
+    "expressions": "parse_expression",
+    "parser": "parse_program",
+    "printer": "show_expression show_program",
+    "scopes": "main_scope procedure_scope procedure_named calls_in reachable_procedures",
+    "kinds": "kind_of",
+    "checks": "check_program is_sound",
+}
+
+
+class InterfaceTest(Case):
+
+    def test_names(self):
+        for module, names in INTERFACE.items():
+            found = importlib.import_module("odds." + module)
+            for name in names.split():
+                self.assertEqual(getattr(found, name).__module__, "odds." + module)
+                self.assertEqual(getattr(found, name).__name__, name)
+
+    def test_the_folder_contains_modules_only(self):
+        folder = os.path.dirname(odds.__file__)
+        others = [name for name in os.listdir(folder)
+                  if not name.endswith(".py") and name != "__pycache__"]
+        self.assertEqual(others, [])
+
+
+if __name__ == "__main__":
+    unittest.main()
