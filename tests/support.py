@@ -1,6 +1,7 @@
 """What several tests need: comparisons, pseudo-random inputs, the program of point 2.16."""
 
 import copy
+import signal
 import sys
 import unittest
 
@@ -214,3 +215,17 @@ def few_calls(function, *arguments, calls=400):
         return function(*arguments)
     finally:
         sys.setrecursionlimit(before)
+
+
+def soon(function, *arguments, seconds=20):
+    """Call a function that must not take long: one that steps through too much is stopped."""
+    def stop(*_):
+        raise AssertionError("the call takes too long")
+
+    before = signal.signal(signal.SIGALRM, stop)
+    signal.alarm(seconds)
+    try:
+        return function(*arguments)
+    finally:
+        signal.alarm(0)
+        signal.signal(signal.SIGALRM, before)

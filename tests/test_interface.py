@@ -21,6 +21,12 @@ INTERFACE = {
     "scopes": "main_scope procedure_scope procedure_named calls_in reachable_procedures",
     "kinds": "kind_of",
     "checks": "check_program is_sound",
+    "values": "evaluate",
+    "draws": "flip_weights uniform_weights pick_weights chance",
+    "machine": "run",
+    "paths": "paths count_paths weigh_paths",
+    "flat": "evaluate_flat cells_in flatten_expression",
+    "flatrun": "run_flat flat_paths weigh_flat",
 }
 
 
