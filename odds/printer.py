@@ -7,7 +7,7 @@ ATOM_LEVEL = 7
 
 
 def show_expression(tree):
-    """Return the text of an expression, with the fewest brackets."""
+    """Return the text of an expression, also of a flat one, with the fewest brackets."""
     tag = tree[0]
     if tag in SIGN_OF:
         return _show_operation(tree)
@@ -64,12 +64,26 @@ def _show_atom(tree):
         return str(tree[1])
     if tag in ("true", "false"):
         return tag
+    if tag == "cell":
+        return show_cell(tree[1])
     if tag == "item":
         return tree[1] + "[" + show_expression(tree[2]) + "]"
+    if tag == "at":
+        return show_cells(tree[1], tree[2]) + "[" + show_expression(tree[3]) + "]"
     if tag == "cond":
         condition, first, second = [show_expression(part) for part in tree[1:]]
         return f"(if {condition} then {first} else {second})"
     return tag + "(" + _show_list(tree[1:]) + ")"
+
+
+def show_cell(cell):
+    """Return the text of a cell."""
+    return f"c{cell}"
+
+
+def show_cells(base, size):
+    """Return the text of the cells of an array."""
+    return show_cell(base) + ".." + show_cell(base + size - 1)
 
 
 def _show_list(trees):
@@ -158,4 +172,9 @@ def _assignment_line(statement):
 
 
 def _show_choices(pairs):
-    return ", ".join([f"{show_expression(v)} : {show_expression(w)}" for v, w in pairs])
+    return ", ".join([show_choice(v, w) for v, w in pairs])
+
+
+def show_choice(value, weight):
+    """Return the text of a value and its weight."""
+    return show_expression(value) + " : " + show_expression(weight)

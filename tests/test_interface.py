@@ -27,6 +27,13 @@ INTERFACE = {
     "paths": "paths count_paths weigh_paths",
     "flat": "evaluate_flat cells_in flatten_expression",
     "flatrun": "run_flat flat_paths weigh_flat",
+    "sizes": "code_size",
+    "unroll": "unroll",
+    "listing": "list_flat",
+    "spans": "span_of is_safe",
+    "tracing": "spans_after trace_spans",
+    "folding": "fold propagate",
+    "slicing": "is_safe_instruction live_cells slice_flat thin",
 }
 
 
