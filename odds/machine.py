@@ -40,7 +40,7 @@ class Machine(Process):
         if tag in ("if", "repeat", "while", "for"):
             self._enter(statement)
         elif tag == "store":
-            self._store(statement)
+            self._store_item(statement)
         elif tag == "call":
             self._call(statement)
         elif tag == "end":
@@ -80,7 +80,7 @@ class Machine(Process):
         else:
             self.outcome = "exhausted"
 
-    def _store(self, statement):
+    def _store_item(self, statement):
         _, name, index, tree = statement
         array = self.memory[name]
         at = checked_index(evaluate(index, self.memory), len(array))

@@ -34,6 +34,19 @@ INTERFACE = {
     "tracing": "spans_after trace_spans",
     "folding": "fold propagate",
     "slicing": "is_safe_instruction live_cells slice_flat thin",
+    "store": "Store",
+    "written": "write_diagram read_diagram",
+    "orders": "reorder swap_gain sift",
+    "coins": "Coins",
+    "splits": "gather narrow select domain where value_under",
+    "splitting": "split_expression split_tuples",
+}
+
+METHODS = {
+    ("cursor", "Cursor"): "taken peek take skip_if expect name numeral",
+    ("store", "Store"): "node coin level low high choose negate both either without either_of "
+                        "restrict value support nodes_below models same_as",
+    ("coins", "Coins"): "fresh chances alternatives",
 }
 
 
@@ -45,6 +58,13 @@ class InterfaceTest(Case):
             for name in names.split():
                 self.assertEqual(getattr(found, name).__module__, "odds." + module)
                 self.assertEqual(getattr(found, name).__name__, name)
+
+    def test_methods(self):
+        """Each method stands in its class itself, not only in a base class."""
+        for (module, name), methods in METHODS.items():
+            own = vars(getattr(importlib.import_module("odds." + module), name))
+            for method in methods.split():
+                self.assertIn(method, own)
 
     def test_the_folder_contains_modules_only(self):
         folder = os.path.dirname(odds.__file__)
