@@ -31,3 +31,26 @@ def pick_weights(weights):
 def chance(weights, k):
     """Return the chance of an alternative."""
     return ratio(weights[k], sum(weights))
+
+
+def is_draw(statement):
+    """Tell whether a statement draws."""
+    return statement[0] in ("flip", "uniform", "pick", "weigh")
+
+
+def draw_parameters(statement):
+    """Return the list of the expressions by whose values a statement draws."""
+    if statement[0] == "pick":
+        return [weight for _, weight in statement[2]]
+    # The two expressions stand behind the target, but `weigh` has none.
+    return list(statement[-2:])
+
+
+def draw_weights(statement, values):
+    """Return the weights of a draw whose parameters have the given tuple of values."""
+    tag = statement[0]
+    if tag == "pick":
+        return pick_weights(values)
+    if tag == "uniform":
+        return uniform_weights(*values)
+    return flip_weights(*values)

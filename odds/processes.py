@@ -1,6 +1,6 @@
 """Runs that go on from draw to draw, and all the runs that may come of one."""
 
-from odds.draws import chance, flip_weights, pick_weights, uniform_weights
+from odds.draws import chance, draw_parameters, draw_weights, is_draw
 from odds.errors import Fault
 from odds.ratios import ONE, ZERO, plus, times
 from odds.tables import tabulate
@@ -64,8 +64,9 @@ class Process:
         tag = statement[0]
         if tag == "set":
             self.memory[statement[1]] = evaluate(statement[2], self.memory)
-        elif tag in ("flip", "uniform", "pick", "weigh"):
-            self.wait_at(statement, self._weights_of(statement))
+        elif is_draw(statement):
+            values = tuple([evaluate(tree, self.memory) for tree in draw_parameters(statement)])
+            self.wait_at(statement, draw_weights(statement, values))
         elif tag == "observe":
             if not evaluate(statement[1], self.memory):
                 self.outcome = "rejected"
@@ -81,16 +82,6 @@ class Process:
         """Evaluate the results and end the run."""
         self.results = tuple([evaluate(tree, self.memory) for tree in self.trees])
         self.outcome = "finished"
-
-    def _weights_of(self, statement):
-        tag = statement[0]
-        if tag == "pick":
-            return pick_weights(tuple([evaluate(tree, self.memory) for _, tree in statement[2]]))
-        # The two expressions stand behind the target, but `weigh` has none.
-        a, b = [evaluate(tree, self.memory) for tree in statement[-2:]]
-        if tag == "uniform":
-            return uniform_weights(a, b)
-        return flip_weights(a, b)
 
     def _take_alternative(self, k):
         tag = self.draw[0]
@@ -128,12 +119,27 @@ def all_runs(start):
 
 def weigh_all(start):
     """Return the answer of all runs that a process may become."""
-    masses = {}
-    lost = {"rejected": ZERO, "exhausted": ZERO, "faulted": ZERO}
+    tally = Tally()
     for _, outcome, results, mass in all_runs(start):
+        tally.enter(outcome, results, mass)
+    return tally.answer()
+
+
+class Tally:
+    """Adds up the masses of runs that have ended."""
+
+    def __init__(self):
+        self._masses = {}
+        self._lost = {"rejected": ZERO, "exhausted": ZERO, "faulted": ZERO}
+
+    def enter(self, outcome, results, mass):
+        """Add the mass of runs with an outcome, and with results if they are finished."""
         if outcome == "finished":
-            masses[results] = plus(masses.get(results, ZERO), mass)
+            self._masses[results] = plus(self._masses.get(results, ZERO), mass)
         else:
-            lost[outcome] = plus(lost[outcome], mass)
-    table = tuple(tabulate(list(masses.items())))
-    return (table, lost["rejected"], lost["exhausted"], lost["faulted"])
+            self._lost[outcome] = plus(self._lost[outcome], mass)
+
+    def answer(self):
+        """Return the answer that the masses make."""
+        table = tuple(tabulate(list(self._masses.items())))
+        return (table, self._lost["rejected"], self._lost["exhausted"], self._lost["faulted"])

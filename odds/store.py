@@ -167,9 +167,14 @@ class Store:
         c, a, b = choice
         if c < 2:
             return a if c == 1 else b
+        # Where `c` is chosen itself, its value is known.
+        if a == c:
+            a = 1
+        if b == c:
+            b = 0
         if a == b:
             return a
-        if (b == 0 and a in (1, c)) or (a == 1 and b == c):
+        if a == 1 and b == 0:
             return c
         return self._chosen.get(choice, -1)
 

@@ -40,6 +40,13 @@ INTERFACE = {
     "coins": "Coins",
     "splits": "gather narrow select domain where value_under",
     "splitting": "split_expression split_tuples",
+    "outcomes": "Outcomes build_outcomes outcome_under choices_under",
+    "counting": "count counts count_given slope likeliest",
+    "answers": "answer_of evidence lost posterior marginal expected probability_that",
+    "engine": "infer infer_program infer_by_states",
+    "states": "carry",
+    "queries": "Query",
+    "reports": "write_report read_report",
 }
 
 METHODS = {
@@ -47,6 +54,7 @@ METHODS = {
     ("store", "Store"): "node coin level low high choose negate both either without either_of "
                         "restrict value support nodes_below models same_as",
     ("coins", "Coins"): "fresh chances alternatives",
+    ("queries", "Query"): "answer program source chances best_run influence",
 }
 
 
